@@ -5,6 +5,8 @@ and had no name; then they are put into the whole, at the offset and under the
 name of the declared field, so that all types nest in the same way.
 """
 
+from recstore.paths import joined
+
 LIST_HEADER = 4
 LIST_ALIGNMENT = 2
 
@@ -23,6 +25,11 @@ def declaration(schema, name, version):
     return _declared(schema, ("record", name, version))
 
 
+def struct_declaration(schema, name):
+    """The declared fields of a struct."""
+    return _declared(schema, ("struct", name))
+
+
 def layout(schema, name, version):
     """The layout of a version of a record type."""
     return _placed(schema, declaration(schema, name, version))
@@ -30,7 +37,7 @@ def layout(schema, name, version):
 
 def struct_layout(schema, name):
     """The layout of a struct."""
-    return _placed(schema, _declared(schema, ("struct", name)))
+    return _placed(schema, struct_declaration(schema, name))
 
 
 def together(one, other):
@@ -134,15 +141,10 @@ def _put_into(fields, name, offset):
     """The scalar fields of a part as they are in the whole, where the part has this name and offset."""
     moved = []
     for field in fields:
-        conditions = tuple([(_joined(name, tag), number) for tag, number in field[8]])
-        place = (_joined(name, field[0]), offset + field[1])
+        conditions = tuple([(joined(name, tag), number) for tag, number in field[8]])
+        place = (joined(name, field[0]), offset + field[1])
         moved.append(place + field[2:8] + (conditions,))
     return moved
-
-
-def _joined(name, path):
-    """The path in the whole of what has a path within the part of this name."""
-    return name + "." + path if path else name
 
 
 def _rounded_up(number, step):
