@@ -4,7 +4,7 @@ from recstore.integers import bounds
 from recstore.kinds import kind_at
 from recstore.layouts import declaration, layout
 from recstore.paths import field_at, joined
-from recstore.versions import source_list, sources
+from recstore.versions import chain, source_list, traces
 
 
 def first_disagreement(schema, name, version):
@@ -14,10 +14,9 @@ def first_disagreement(schema, name, version):
 
 def _own_disagreement(schema, name, version):
     """That of the fields of the record itself."""
-    newer = layout(schema, name, version)[2]
     older = layout(schema, name, version - 1)[2]
-    found = sources(schema, name, version)
-    for field in newer:
+    found = traces(chain(schema, name, version, version - 1))
+    for field in layout(schema, name, version)[2]:
         told, path = found[field[0]]
         if told == "field":
             # A tag without a source field is traced to an integer, which is the path of no tag.

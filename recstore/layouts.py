@@ -40,6 +40,11 @@ def struct_layout(schema, name):
     return _placed(schema, struct_declaration(schema, name))
 
 
+def size_of(schema, kind):
+    """How many bytes a field of a type takes."""
+    return _parts(schema, kind)[0]
+
+
 def together(one, other):
     """Whether two scalar fields can be active together."""
     pairs = [(mine, its) for mine in one[8] for its in other[8]]
