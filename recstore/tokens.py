@@ -2,7 +2,7 @@
 
 LETTERS = "abcdefghijklmnopqrstuvwxyz"
 DIGITS = "0123456789"
-RUN = LETTERS + DIGITS
+RUN = "abcdefghijklmnopqrstuvwxyz0123456789"
 LONGEST_NAME = 8
 LONGEST_NUMBER = 9
 RESERVED = (
