@@ -61,3 +61,11 @@ def list_index(layout, name):
     if name not in names:
         raise BadField("no such list")
     return names.index(name)
+
+
+def entered_lists(layout, path):
+    """The indexes of the lists that a path enters: the empty path enters all."""
+    if path == "":
+        return list(range(len(layout[3])))
+    told = split_list(layout, path)
+    return [] if told is None else [told[0]]

@@ -41,9 +41,16 @@ def renew_headers(schema, data):
     """Puts the present positions of all list blocks into the list headers."""
     found = blocks(data)
     positions = {(block[2], block[3]): block[0] // UNIT + 1 for block in found}
+    headers = {}
     for offset, _, number, version in found:
-        if block_kind(data, offset) != 0 and version < LIST_BLOCK:
-            lists = layout(schema, kind_name(schema, block_kind(data, offset)), version)[3]
-            for index, entry in enumerate(lists):
-                position = positions.get((number, LIST_BLOCK + index), 0)
-                write_word(data, offset + UNIT + entry[1] + 2, 2, position)
+        kind = block_kind(data, offset)
+        if kind != 0 and version < LIST_BLOCK:
+            if (kind, version) not in headers:
+                headers[kind, version] = _header_offsets(schema, kind, version)
+            for index, header in enumerate(headers[kind, version]):
+                write_word(data, offset + UNIT + header + 2, 2, positions.get((number, LIST_BLOCK + index), 0))
+
+
+def _header_offsets(schema, kind, version):
+    """The offsets of the list headers in a version of the record type with this number."""
+    return [entry[1] for entry in layout(schema, kind_name(schema, kind), version)[3]]
