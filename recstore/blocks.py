@@ -77,10 +77,13 @@ def find_block(data, number, version):
 
     For version None it is the record's own block.
     """
-    for offset, _, owner, byte in blocks(data):
+    offset = 0
+    while offset < len(data):
+        byte = data[offset + 3]
         fits = byte < LIST_BLOCK if version is None else byte == version
-        if fits and owner == number and block_kind(data, offset) != 0:
+        if fits and block_kind(data, offset) != 0 and read_word(data, offset + 4, 4) == number:
             return offset
+        offset += block_size(data, offset)
     return None
 
 

@@ -21,3 +21,9 @@ def check_range(field, value):
     least, greatest = bounds(field[5], field[6])
     if value < least or value > greatest:
         raise OutOfRange()
+
+
+def mark_field(marked, start, field):
+    """Sets all bits of a scalar field of what begins at start."""
+    _, offset, size, big, first, width, _, _, _ = field
+    write_slot(marked, start + offset, size, big, first, width, False, (1 << width) - 1)

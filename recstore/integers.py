@@ -29,7 +29,7 @@ def write_slot(data, offset, size, big, first, width, signed, value):
 
 def read_word(data, offset, size):
     """The unsigned number of a whole little-endian word."""
-    return read_slot(data, offset, size, False, 0, 8 * size, False)
+    return _read_number(data, offset, size, False)
 
 
 def write_word(data, offset, size, value):
@@ -58,9 +58,10 @@ def _places(offset, size, big):
 
 def _read_number(data, offset, size, big):
     """The number of a word."""
+    word = data[offset:offset + size]
     number = 0
-    for place in reversed(_places(offset, size, big)):
-        number = number * 256 + data[place]
+    for byte in word if big else word[::-1]:
+        number = number * 256 + byte
     return number
 
 

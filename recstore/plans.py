@@ -14,7 +14,7 @@ class Plan:
         self.schema = schema
         self.name = name
         self.declared, self.layout = steps[0]
-        self.stored_layout = steps[-1][1]
+        self.stored_declared, self.stored_layout = steps[-1]
         # For each list, the index of the stored list to which it is traced, or None.
         self.lists = [self._stored_list(list_trace(steps, entry[0])) for entry in self.layout[3]]
         self.sources = {index: self._sources(steps, index) for index in [None] + list(range(len(self.lists)))}
@@ -53,11 +53,12 @@ class Plans:
         self.schema = schema
         self.known = {}
 
-    def planned(self, name, version, stored):
-        """The plan of a record type for a version, from the one that is stored."""
-        key = (name, version, stored)
+    def planned(self, told, version):
+        """The plan of a record that is told as (name, stored version) for a version; for None, for the stored one."""
+        name, stored = told
+        key = (name, stored if version is None else version, stored)
         if key not in self.known:
-            self.known[key] = Plan(self.schema, name, version, stored)
+            self.known[key] = Plan(self.schema, key[0], key[1], key[2])
         return self.known[key]
 
 

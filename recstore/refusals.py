@@ -4,11 +4,18 @@ The functions take views of records as they are stored, but readable_spot,
 which takes any.
 """
 
-from recstore.errors import BadField
+from recstore.errors import BadArgument, BadField
 from recstore.fields import check_range
 from recstore.paths import field_at
 
 MOST_ITEMS = 60
+
+
+def stored_view(records, number):
+    """The view of one of the records as it is stored; raises BadArgument if there is none with this number."""
+    if records.told(number) is None:
+        raise BadArgument("record")
+    return records.view(number, None)
 
 
 def readable_spot(view, path):

@@ -71,3 +71,8 @@ class View:
         """The word from which the field at a spot is read, as its cells name it, or None for an initial value."""
         told, found = self.plan.origin(spot)
         return None if told == "initial" else self.cells.word(found)
+
+
+def slot_told(told):
+    """The slot (recstore.steps) of a field that is told as (view, spot); None for None."""
+    return None if told is None else told[1][2][2:7]
