@@ -1,4 +1,4 @@
-"""The records of a store: those that all its calls read and change are in one array of bytes."""
+"""The records of a store, in one array of bytes."""
 
 from recstore.blocks import LIST_BLOCK, block_kind, blocks, grow, push_together, used
 from recstore.cells import Cells

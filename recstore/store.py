@@ -31,7 +31,7 @@ class Store:
         self.entries = None
 
     def _tell(self, answer, name, *arguments):
-        """Puts a call into the journal that was not refused; its answer."""
+        """Puts a call into the journal and passes its answer on; a call that is refused raises ahead of this."""
         if self.entries is not None:
             self.entries.extend(write_entry(name, arguments))
         return answer

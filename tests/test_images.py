@@ -181,6 +181,10 @@ class FreeBlocks(Case):
         # Not zero comes first in one block.
         self.fault("free block not zero", free + 8, {free: 1, free + 8: size // 8 - 1, free + 15: 3})
 
+    def test_neighbouring_free_blocks_at_the_beginning(self):
+        data = [1] + [0] * 7 + [2] + [0] * 15 + [5] + [0] * 39
+        self.assertEqual(check_image(self.schema, write_image(data, 1)), (16, "neighbouring free blocks"))
+
     def test_the_lower_block_first(self):
         free = [block[0] for block in self.store.blocks() if block[2] == 0][-1]
         self.fault("record type", 0, {free + 9: 1, 2: 3})
