@@ -224,7 +224,7 @@ def _calls(store):
         "pop": lambda number, name: store.pop(number, name), "delete": store.delete, "upgrade": store.upgrade,
         "grow": store.grow, "push_together": store.push_together, "checkpoint": store.checkpoint, "back": store.back,
         "commit": store.commit, "device": store.device, "lease": store.lease, "release": store.release,
-        BEGIN: store.begin, STEP: store.step, "abort": store.abort,
+        BEGIN: store.begin, STEP: lambda device: store.step(device), "abort": store.abort,
     }
 
 
